@@ -4,9 +4,14 @@ from ledlevels.fractions import ZERO, is_less, times_of, total
 from ledlevels.rows import is_row, product
 
 
+def is_worded(value, word, many):
+    """Return whether a value is a tuple of this word and so many other parts."""
+    return isinstance(value, tuple) and len(value) == many + 1 and value[0] == word
+
+
 def is_told(value, word, lengths):
     """Return whether a value is a tuple of this word and tuples of so many fractions each."""
-    if not isinstance(value, tuple) or len(value) != len(lengths) + 1 or value[0] != word:
+    if not is_worded(value, word, len(lengths)):
         return False
     return all([is_row(part, many) for part, many in zip(value[1:], lengths)])
 

@@ -184,6 +184,15 @@ class Language(unittest.TestCase):
                 spots.extend((name, one.lineno, one.col_offset) for one in node.args)
         return spots
 
+    def test_comprehensions_within_others_have_names_of_their_own(self):
+        for name, outer in self.walk(ast.ListComp, ast.DictComp):
+            own = [list(bound_names(part.target)) for part in outer.generators]
+            for inner in ast.walk(outer):
+                if inner is not outer and isinstance(inner, (ast.ListComp, ast.DictComp)):
+                    for part in inner.generators:
+                        for word in bound_names(part.target):
+                            self.assertFalse(any(word in names for names in own), (name, inner.lineno))
+
     def test_values(self):
         for name, node in self.walk(ast.Constant):
             self.assertIsInstance(node.value, (int, str, bool, None.__class__), (name, node.lineno))

@@ -3,7 +3,8 @@ from itertools import product as all_of
 
 from ledlevels.rooms import (
     inside, is_place, is_room, least_slack, middle, most_in, slack, touched, wall_form)
-from tests.helping import ANY_VALUES, are_pairs, changed, dot, is_pair, pair, random_pair, random_row, real, rng_for, row
+from tests.helping import ANY_VALUES, are_pairs, changed, dot, is_pair, pair, random_row, real, rng_for, row
+from tests.walking import random_room
 
 HALL = (((0, 1), (4, 1)), ((0, 1), (7, 2)))
 
@@ -18,15 +19,6 @@ def own_is_place(room, value):
     if not are_pairs(value, len(room)):
         return False
     return all(real(low) <= real(x) <= real(high) for (low, high), x in zip(room, value))
-
-
-def random_room(rng, levels, most):
-    out = []
-    while len(out) < levels:
-        low, high = random_pair(rng, most), random_pair(rng, most)
-        if real(low) < real(high):
-            out.append((low, high))
-    return tuple(out)
 
 
 def spots(room):
