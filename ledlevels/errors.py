@@ -52,7 +52,7 @@ class BadText(LevelError):
     """A text is none of what is read; place is where it cannot go on."""
 
     def __init__(self, place):
-        LevelError.__init__(self, "the text cannot go on here")
+        super().__init__("the text cannot go on here")
         self.place = copied(place)
 
 
@@ -60,7 +60,7 @@ class NotInside(LevelError):
     """A place is not inside the room; number tells which one."""
 
     def __init__(self, number):
-        LevelError.__init__(self, "the place is not inside the room")
+        super().__init__("the place is not inside the room")
         self.number = copied(number)
 
 
@@ -68,7 +68,7 @@ class NoWay(LevelError):
     """Nothing leads there, as the slope shows."""
 
     def __init__(self, slope):
-        LevelError.__init__(self, "nothing leads there")
+        super().__init__("nothing leads there")
         self.slope = copied(slope)
 
 
@@ -76,7 +76,7 @@ class NoAnswer(LevelError):
     """No turn answers in this lap."""
 
     def __init__(self, lap):
-        LevelError.__init__(self, "no turn answers in this lap")
+        super().__init__("no turn answers in this lap")
         self.lap = copied(lap)
 
 
@@ -84,7 +84,7 @@ class BadName(LevelError):
     """A name is none, or is taken."""
 
     def __init__(self, name):
-        LevelError.__init__(self, "the name is none, or is taken")
+        super().__init__("the name is none, or is taken")
         self.name = copied(name)
 
 
@@ -92,7 +92,7 @@ class Clash(LevelError):
     """Names were changed on both sides, and not alike."""
 
     def __init__(self, names):
-        LevelError.__init__(self, "names were changed on both sides")
+        super().__init__("names were changed on both sides")
         self.names = copied(names)
 
 
@@ -104,7 +104,7 @@ class UnknownName(Missing):
     """There is nothing of this name."""
 
     def __init__(self, name):
-        Missing.__init__(self, "there is nothing of this name")
+        super().__init__("there is nothing of this name")
         self.name = copied(name)
 
 
@@ -112,5 +112,5 @@ class NoMoment(Missing):
     """There is no moment of this number."""
 
     def __init__(self, number):
-        Missing.__init__(self, "there is no moment of this number")
+        super().__init__("there is no moment of this number")
         self.number = copied(number)

@@ -1,8 +1,8 @@
 """Whether a mill is held in any weather, or which choice of the weather's drives it out."""
 
-from ledlevels.fractions import ONE, is_number, total
+from ledlevels.fractions import ONE, total
 from ledlevels.kept import longest_climb
-from ledlevels.mills import choices, rates_of
+from ledlevels.mills import choices, is_choice, rates_of
 from ledlevels.mixing import climbs_fault, mixed
 from ledlevels.rows import is_row, nought
 from ledlevels.sums import first_below, first_off, is_worded
@@ -19,42 +19,27 @@ def held(mill):
     return ("held", mixings)
 
 
-def is_choice(value, mill):
-    """Return whether a value is a choice of the mill."""
-    if not isinstance(value, tuple) or len(value) != len(mill):
-        return False
-    return all([is_number(k) and 0 <= k < len(turn) for k, turn in zip(value, mill)])
-
-
-def is_held_form(value, many, turns):
-    """Return whether a value is a tuple of "held" and so many tuples of a fraction for each of so many turns."""
-    if not is_worded(value, "held", 1) or not isinstance(value[1], (list, tuple)) or len(value[1]) != many:
+def is_mixings_form(value, word, many, turns):
+    """Return whether a value is a tuple of the word and so many tuples of a fraction for each of so many turns."""
+    if not is_worded(value, word, 1) or not isinstance(value[1], (list, tuple)) or len(value[1]) != many:
         return False
     return all([is_row(shares, turns) for shares in value[1]])
 
 
-def is_driven_form(value, mill):
-    """Return whether a value is a tuple of "driven", a choice of the mill and a row for its levels."""
-    if not is_worded(value, "driven", 2):
+def is_choice_form(value, word, mill):
+    """Return whether a value is a tuple of the word, a choice of the mill and a row for its levels."""
+    if not is_worded(value, word, 2):
         return False
     return is_choice(value[1], mill) and is_row(value[2], len(mill[0][0]))
 
 
-def shares_fault(rates, k, shares):
-    """Return the fault of the mixing number k, that should be one of these rates, None if there is none."""
-    if first_below(shares) is not None or total(shares) != ONE:
-        return ("share", k)
-    if first_off(rates, shares, nought(len(rates[0]))) is not None:
-        return ("rates", k)
-    return None
-
-
-def held_fault(mill, told, mixings):
-    """Return the first fault of ("held", mixings), told all choices; None if there is none."""
-    for k, (choice, shares) in enumerate(zip(told, mixings)):
-        fault = shares_fault(rates_of(mill, choice), k, shares)
-        if fault is not None:
-            return fault
+def mixings_fault(mill, goals, mixings):
+    """Return the first fault of mixings, told for each its goal: the choice and the row that it has to come to."""
+    for k, ((choice, v), shares) in enumerate(zip(goals, mixings)):
+        if first_below(shares) is not None or total(shares) != ONE:
+            return ("share", k)
+        if first_off(rates_of(mill, choice), shares, v) is not None:
+            return ("rates", k)
     return None
 
 
@@ -67,10 +52,10 @@ def driven_fault(rates, slope):
 def judge_held(mill, value):
     """Return None if value is a right answer of held, else its first fault; TooMany as held."""
     told = choices(mill)
-    if is_driven_form(value, mill):
+    if is_choice_form(value, "driven", mill):
         return driven_fault(rates_of(mill, value[1]), value[2])
-    if is_held_form(value, len(told), len(mill)):
-        return held_fault(mill, told, value[1])
+    if is_mixings_form(value, "held", len(told), len(mill)):
+        return mixings_fault(mill, [(choice, nought(len(mill[0][0]))) for choice in told], value[1])
     return ("form",)
 
 

@@ -10,6 +10,11 @@ def is_row(value, many):
     return isinstance(value, tuple) and len(value) == many and all([is_fraction(x) for x in value])
 
 
+def is_any_row(value):
+    """Return whether a value is a row of one to four fractions."""
+    return any([is_row(value, many) for many in range(1, MOST_LEVELS + 1)])
+
+
 def added(one, other):
     """Return the row of the sums, level by level."""
     return tuple([plus(x, y) for x, y in zip(one, other)])

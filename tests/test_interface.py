@@ -38,21 +38,60 @@ INTERFACE = {
     "sooner": ["never_slower(rates, others)", "judge_sooner(rates, others, value)", "alike_times(rates, others)"],
     "slopes": ["slopes(rates)", "time_by(told, v)"],
     "held": ["held(mill)", "judge_held(mill, value)", "driven_by(room, mill, place, choice, slope)"],
+    "live": ["answers(mill, y)", "first_time(room, mill, start)", "played(room, mill, start, winds)"],
+    "margins": ["bears(mill, e)", "judge_bears(mill, e, value)", "margin(mill)", "judge_margin(mill, value)"],
+    "costs": ["least_cost(rates, costs)", "judge_cost(rates, costs, value)", "cost_of(costs, plan)",
+              "mean_cost(costs, plan)", "cheapest(room, rates, costs, place)"],
+    "weathered": ["held_cost(mill, costs)", "judge_held_cost(mill, costs, value)",
+                  "cost_answers(mill, costs, cost, y, x)", "paid(room, mill, costs, cost, start, winds)"],
+    "peaks": ["peak(rates, powers)", "judge_peak(rates, powers, value)"],
+    "together": ["let_rows(powers, cap)", "together(several, powers, cap)",
+                 "judge_together(several, powers, cap, value)", "common_cap(several, powers)"],
+    "books": ["is_book(value, many)", "come_to(book, first)", "lots_of(book)", "is_by_book(book, first, plan)",
+              "by_book(room, rates, book, first, place)", "judge_book(room, rates, book, first, place, value)",
+              "book_time(room, rates, parts)"],
+    "ticks": ["is_whole_room(value)", "is_whole_row(value)", "whole_places(room)", "led_tick(room, rates, place, k)",
+              "by_ticks(room, rates, place)", "judge_ticks(room, rates, place, value)", "longest(room, rates, place)",
+              "staying(room, rates)"],
+    "deeds": ["is_plant(value)", "plant_text(plant)", "behind(state, deed)", "deed_text(deed)", "read_deed(text)"],
 }
+CLASSES = {
+    "house": {"House": ["number(self)", "state(self)", "state_at(self, number)", "elders(self, number)", "branches(self)",
+                        "present(self)", "do(self, deed)", "undo(self)", "redo(self)", "branch(self, name)",
+                        "go(self, name)", "merge(self, name)", "common(self, one, other)", "ask(self, question)",
+                        "keep(self, label, question)", "labels(self)", "paper(self, label)", "today(self, label)"]},
+    "console": {"Console": ["house(self)", "say(self, line)"]},
+}
+
+
+def read(name):
+    with open(os.path.join(HERE, name + ".py"), encoding="utf-8") as file:
+        return ast.parse(file.read())
+
+
+def lines_of(body):
+    """The functions of a file or class, as the document writes them."""
+    return [f"{node.name}({', '.join(arg.arg for arg in node.args.args)})" for node in body
+            if isinstance(node, ast.FunctionDef)]
 
 
 class Interface(unittest.TestCase):
     def test_each_function_stands_in_its_file(self):
         for name, lines in INTERFACE.items():
-            with open(os.path.join(HERE, name + ".py"), encoding="utf-8") as file:
-                tree = ast.parse(file.read())
-            told = [f"{node.name}({', '.join(arg.arg for arg in node.args.args)})" for node in tree.body
-                    if isinstance(node, ast.FunctionDef)]
+            told = lines_of(read(name).body)
             for line in lines:
                 self.assertIn(line, told, name)
 
+    def test_each_class_has_its_methods_itself(self):
+        for name, classes in CLASSES.items():
+            found = {node.name: node for node in read(name).body if isinstance(node, ast.ClassDef)}
+            for word, lines in classes.items():
+                told = lines_of(found[word].body)
+                for line in ["__init__(self)"] + lines:
+                    self.assertIn(line, told, name)
+
     def test_each_file_can_be_imported(self):
-        for name in INTERFACE:
+        for name in list(INTERFACE) + list(CLASSES):
             importlib.import_module("ledlevels." + name)
 
 

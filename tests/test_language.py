@@ -10,7 +10,7 @@ HERE = os.path.join(os.path.dirname(os.path.dirname(os.path.abspath(__file__))),
 LIBRARY = {"math": ("gcd", "lcm")}
 BUILTINS = (
     "len range enumerate zip min max sum abs sorted reversed int str bool list tuple dict set isinstance ord repr any "
-    "all divmod ValueError LookupError").split()
+    "all divmod super ValueError LookupError").split()
 METHODS = (
     "append clear copy count endswith extend find get index insert isalnum isalpha isdigit islower isspace isupper "
     "items join keys ljust lower lstrip partition pop remove replace reverse rfind rjust rpartition rsplit rstrip "
@@ -26,7 +26,10 @@ NODES = (
     "Module Expr Constant ImportFrom alias FunctionDef arguments arg ClassDef Assign AugAssign Name Load Store Attribute "
     "Return If For While Break Continue Pass Raise Call Compare BoolOp And Or Not UnaryOp USub BinOp Add Sub Mult "
     "FloorDiv Mod Pow IfExp Subscript Slice Tuple List Dict ListComp DictComp comprehension Eq NotEq Lt LtE Gt GtE In "
-    "NotIn Is IsNot Starred keyword").split()
+    "NotIn Is IsNot Starred keyword Try ExceptHandler").split()
+NOT_ATTRIBUTES = (
+    "items keys values pop update append clear extend insert remove reverse setdefault sort args encode decode hex fromhex "
+    "format format_map mro").split()
 
 
 def files():
@@ -162,17 +165,62 @@ class Language(unittest.TestCase):
                         self.assertIsInstance(node.ctx, ast.Store)
 
     def test_calls(self):
+        own = [one.name for _, node in self.walk(ast.ClassDef) for one in node.body if isinstance(one, ast.FunctionDef)]
         for name, node in self.walk(ast.Call):
             self.assertEqual(node.keywords, [], (name, node.lineno))
             self.assertFalse(any(isinstance(one, ast.Starred) for one in node.args), (name, node.lineno))
             if isinstance(node.func, ast.Attribute):
-                self.assertIn(node.func.attr, METHODS, (name, node.lineno))
+                self.assertIn(node.func.attr, METHODS + own, (name, node.lineno))
             else:
                 self.assertIsInstance(node.func, ast.Name)
             if isinstance(node.func, ast.Name) and node.func.id in ("zip", "enumerate", "reversed", "range"):
                 self.assertIn((name, node.lineno, node.col_offset), self.gone_through(), "not gone through at once")
             if isinstance(node.func, ast.Name) and node.func.id == "set":
                 self.assertIn("len(set(", self.texts[name])
+
+    def test_classes(self):
+        told = {node.name: node for _, node in self.walk(ast.ClassDef)}
+        methods = {name: [one.name for one in node.body if isinstance(one, ast.FunctionDef)] for name, node in told.items()}
+        stored = {name: {one.attr for one in ast.walk(node)
+                         if isinstance(one, ast.Attribute) and isinstance(one.ctx, ast.Store)}
+                  for name, node in told.items()}
+        every = set().union(*stored.values())
+        own = {word for words in methods.values() for word in words}
+        for name, node in told.items():
+            self.assertLessEqual(len(node.bases), 1)
+            self.assertEqual(len(methods[name]), len(set(methods[name])))
+            self.assertEqual(stored[name] & set(methods[name]), set(), name)
+            self.assertEqual(stored[name] & set(NOT_ATTRIBUTES), set(), name)
+            for word in methods[name]:
+                if word != "__init__":
+                    for value in ("", 1, [], {}, set(), b""):
+                        self.assertFalse(hasattr(value, word), (name, word))
+        for name, node in self.walk(ast.Attribute):
+            spot = (name, node.lineno)
+            if isinstance(node.value, ast.Call):
+                self.assertTrue(node.attr in METHODS, spot)
+            if isinstance(node.value, ast.Name):
+                self.assertNotIn(node.value.id, told, spot)
+            if node.attr not in METHODS:
+                self.assertIn(node.attr, every | own, spot)
+            if isinstance(node.ctx, ast.Store):
+                self.assertEqual(node.value.id, "self", spot)
+        for name, node in self.walk(ast.Call):
+            if isinstance(node.func, ast.Name) and node.func.id == "super":
+                self.assertIn("super().__init__(\"", self.texts[name].split("\n")[node.lineno - 1])
+
+    def test_errors_are_caught_by_their_own_names(self):
+        own = [node.name for node in self.trees["errors.py"].body if isinstance(node, ast.ClassDef)]
+        both = [word for word in ("number", "place", "slope", "lap", "name", "names")]
+        for name, node in self.walk(ast.Try):
+            self.assertEqual(node.finalbody, [])
+            for handler in node.handlers:
+                caught = handler.type.elts if isinstance(handler.type, ast.Tuple) else [handler.type]
+                self.assertTrue(all(one.id in own for one in caught), (name, node.lineno))
+            # What is a method of one class and an attribute of another one is not called here.
+            for part in node.body:
+                for one in ast.walk(part):
+                    self.assertFalse(isinstance(one, ast.Attribute) and one.attr in both, (name, node.lineno))
 
     def gone_through(self):
         """Where calls stand that a loop or a list goes through at once."""
