@@ -17,7 +17,7 @@ def cost_of_choice(mill, costs, choice):
 
 
 def held_cost(mill, costs):
-    """Return ("least", cost, choice, prices) or ("driven", choice, slope); TooMany if there are more than 64 choices."""
+    """Return ("least", cost, choice, prices) or ("driven", choice, slope); TooMany beyond 64 choices."""
     best = None
     for choice in choices(mill):
         answer = cost_of_choice(mill, costs, choice)
