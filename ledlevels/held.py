@@ -35,7 +35,8 @@ def is_choice_form(value, word, mill):
 
 def mixings_fault(mill, goals, mixings):
     """Return the first fault of mixings, told for each its goal: the choice and the row that it has to come to."""
-    for k, ((choice, v), shares) in enumerate(zip(goals, mixings)):
+    for k, (goal, shares) in enumerate(zip(goals, mixings)):
+        choice, v = goal
         if first_below(shares) is not None or total(shares) != ONE:
             return ("share", k)
         if first_off(rates_of(mill, choice), shares, v) is not None:

@@ -123,6 +123,8 @@ class JudgePeak(unittest.TestCase):
             self.assertEqual(judge_peak(rates, powers, value), fault, value)
             self.assertEqual(own_judge(rates, powers, value), fault, value)
         self.assertIsNone(judge_peak([UP, row(2)], [(1, 1), (0, 1)], ("climbs", row("1/9"))))
+        self.assertIsNone(judge_peak([UP], [(1, 1)], ("climbs", UP)))
+        self.assertIsNone(judge_peak([row(0, 0)], [(1, 1)], ("peak", (1, 1), row(1), row(7, 7))))
         # The number of a turn is told of all turns, also if others of more power stand ahead of it.
         self.assertEqual(judge_peak([row(0), UP, DOWN], [(9, 1), (2, 1), (5, 1)], ("peak", (5, 1), row(0, "1/2", "1/2"), DOWN)),
                          ("slope", 1))
