@@ -23,7 +23,7 @@ def held_cost(mill, costs):
         answer = cost_of_choice(mill, costs, choice)
         if answer[0] == "climbs":
             return ("driven", choice, answer[1])
-        _, cost, _, prices = answer
+        cost, prices = answer[1], answer[3]
         if best is None or is_less(best[1], cost):
             best = ("least", cost, choice, prices)
     return best

@@ -164,6 +164,8 @@ class Together(unittest.TestCase):
         word, slopes = self.right([[UP, DOWN], [row(1, 2), row(-1, -2)]], POWERS, (1, 1))
         self.assertEqual((word, [len(slope) for slope in slopes]), ("climbs", [1, 2]))
         self.assertEqual(judge_together(TWO, POWERS, (1, 1), ("climbs", (row(-7), row(0)))), None)
+        self.assertEqual(self.right([[UP], [row(0, 0)]], [[(1, 1)], [(1, 1)]], (1, 1))[0], "climbs")
+        self.assertEqual(self.right([[UP], [row(0, 0)]], [[(1, 1)], [(1, 1)]], (2, 1))[0], "climbs")
         self.assertEqual(judge_together(TWO, POWERS, (1, 1), ("mixes", (((1, 1), (1, 1)),))), ("row", (1, 1)))
 
     def test_one_list_and_three_of_unlike_levels(self):
