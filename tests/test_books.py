@@ -39,7 +39,8 @@ def own_come_to(book, first):
 
 def own_lots(book):
     """The lots in their row: always the one with the least turn of those into which no other one leads."""
-    lots = sorted({tuple(k for k in own_come_to(book, turn) if turn in own_come_to(book, k)) for turn in range(len(book))})
+    lots = sorted({tuple(k for k in own_come_to(book,
+                                                turn) if turn in own_come_to(book, k)) for turn in range(len(book))})
     out = []
     while lots:
         ready = [lot for lot in lots if not any(
@@ -98,14 +99,17 @@ def random_book(rng, many, share=0.25):
 class Books(unittest.TestCase):
     def test_examples(self):
         self.assertEqual(
-            [is_book(BOOK, 3), is_book([(1, 0)], 2), is_book([(1,)], 1), come_to(BOOK, 0), come_to(BOOK, 2), lots_of(BOOK)],
+            [is_book(BOOK, 3), is_book([(1, 0)], 2), is_book([(1,)], 1), come_to(BOOK, 0), come_to(BOOK, 2),
+             lots_of(BOOK)],
             [True, False, False, [0, 1, 2], [2], [(0, 1), (2,)]])
 
     def test_is_book(self):
         for value, many, told in [
-                ([()], 1, True), (((),), 1, True), ([(0,)], 1, True), ([(0, 1), (0, 1)], 2, True), ([(1, 0), ()], 2, False),
+                ([()], 1, True), (((),), 1, True), ([(0,)], 1, True), ([(0, 1), (0, 1)], 2, True),
+                ([(1, 0), ()], 2, False),
                 ([(0, 0), ()], 2, False), ([(2,), ()], 2, False), ([(-1,), ()], 2, False), ([(True,), ()], 2, False),
-                ([(False,), ()], 2, False), ([[1], ()], 2, False), ([()], 2, False), ([(), ()], 1, False), ([], 1, False),
+                ([(False,), ()], 2, False), ([[1], ()], 2, False), ([()], 2, False), ([(), ()], 1, False),
+                ([], 1, False),
                 ([(), None], 2, False), ([(), 1], 2, False), ({0: ()}, 1, False), ("a", 1, False), (None, 1, False),
                 ([((1, 1),), ()], 2, False), ([(0, None), ()], 2, False), ([], 0, True), ([({},)], 1, False)]:
             self.assertIs(is_book(value, many), told, value)
@@ -301,7 +305,8 @@ class JudgeBook(unittest.TestCase):
             (("kept", ((((2, one),), None),)), 2, ("leaves", (5, 1), (1, 1))),
             (("kept", ((((0, (4, 1)), (1, (4, 1))), None),)), 0, ("leaves", (3, 1), (0, 1))),
             (("kept", ((((0, one),), 2), (((1, (1, 1)),), None))), 0, ("leaves", (5, 1), (0, -1))),
-            (("kept", ((lap, 3),)), 0, ("form",)), (("kept", ()), 0, ("form",)), (("kept", ((lap, None), (lap, 1))), 0, ("form",)),
+            (("kept", ((lap, 3),)), 0, ("form",)), (("kept", ()), 0, ("form",)),
+            (("kept", ((lap, None), (lap, 1))), 0, ("form",)),
             (("kept", ((((3, one),), None),)), 0, ("form",)), (("kept", ((((True, one),), None),)), 1, ("form",)),
             (("kept", ((((0, (0, 1)),), None),)), 0, ("form",)), (("kept", [(lap, None)]), 0, ("form",)),
             (["kept", PLAN], 0, ("form",)), (("kept", PLAN, 0), 0, ("form",)), (("keeps", PLAN), 0, ("form",)),
@@ -312,7 +317,8 @@ class JudgeBook(unittest.TestCase):
             (("out", (((0,), up), ((1,), down)) + PARTS), 0, ("follower", 1, 1)),
             (("out", (((1,), down), ((0,), up)) + PARTS), 0, ("follower", 1, 0)),
             (("out", (((0, 1, 2), up),)), 0, ("slope", 0, 1)), (("out", (((2,), down),)), 2, ("slope", 0, 2)),
-            (("out", (((2,), row(0, 0)),)), 2, ("slope", 0, 2)), (("out", (((0,), up), ((0, 1, 2), down))), 1, ("slope", 1, 0)),
+            (("out", (((2,), row(0, 0)),)), 2, ("slope", 0, 2)),
+            (("out", (((0,), up), ((0, 1, 2), down))), 1, ("slope", 1, 0)),
             (("out", (((0,), down), ((1,), up))), 2, ("first",)),
             (("out", (((0,), down), ((2,), down))), 2, ("follower", 0, 0)),
             (("out", (((1, 0), up),) + PARTS), 0, ("form",)), (("out", (((0, 0), up),) + PARTS), 0, ("form",)),
@@ -321,7 +327,8 @@ class JudgeBook(unittest.TestCase):
             (("out", (((False,), up),)), 0, ("form",)), (("out", (([2], side),)), 2, ("form",)),
             (("out", (((2,), list(side)),)), 2, ("form",)), (("out", (((2,), row(1)),)), 2, ("form",)),
             (("out", ([(2,), side],)), 2, ("form",)), (("out", (((2,), side, 0),)), 2, ("form",)),
-            (("out", list(PARTS)), 2, ("form",)), (("out",), 2, ("form",)), (["out", PARTS], 2, ("form",)), (None, 0, ("form",)),
+            (("out", list(PARTS)), 2, ("form",)), (("out",), 2, ("form",)), (["out", PARTS], 2, ("form",)),
+            (None, 0, ("form",)),
         ]
         for value, first, fault in cases:
             self.assertEqual(judge_book(HALL, THREE, BOOK, first, SPOT, value), fault, value)

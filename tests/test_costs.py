@@ -139,7 +139,8 @@ class JudgeCost(unittest.TestCase):
             (("least", (10, 3), row("2/3", 0, "1/3"), UP), ("prices", 0)),
             (("least", (2, 1), row("1/2", "1/2", "1/2"), UP), ("shares",)),
             (("least", (9, 1), row("1/3", "1/3", "1/3"), row(9)), ("shares",)),
-            (("least", (2, 1), row("3/2", "-1/2", 0), UP), ("shares",)), (("least", (2, 1), row(1, 1, 0), UP), ("shares",)),
+            (("least", (2, 1), row("3/2", "-1/2", 0), UP), ("shares",)),
+            (("least", (2, 1), row(1, 1, 0), UP), ("shares",)),
             (("least", (2, 1), row("1/4", "5/4", "-1/2"), UP), ("shares",)),
             (("least", (2, 1), row(0, 0, 0), UP), ("shares",)), (("climbs", UP), ("slope", 1)),
             (("climbs", DOWN), ("slope", 0)), (("climbs", row(0)), ("slope", 0)), (("climbs", row(1, 1)), ("form",)),
@@ -149,7 +150,8 @@ class JudgeCost(unittest.TestCase):
             (("least", 2, half, UP), ("form",)), (("least", (2, True), half, UP), ("form",)),
             (("least", (2, 1), list(half), UP), ("form",)), (("least", (2, 1), half[:2], UP), ("form",)),
             (("least", (2, 1), half + half, UP), ("form",)), (("least", (2, 1), half, row(1, 0)), ("form",)),
-            (("least", (2, 1), half, ((True, 1),)), ("form",)), (("most", (2, 1), half, UP), ("form",)), (None, ("form",)),
+            (("least", (2, 1), half, ((True, 1),)), ("form",)), (("most", (2, 1), half, UP), ("form",)),
+            (None, ("form",)),
         ]
         for value, fault in cases:
             self.assertEqual(judge_cost(rates, costs, value), fault, value)
@@ -161,7 +163,8 @@ class JudgeCost(unittest.TestCase):
         told = []
         for _ in range(90):
             levels = rng.randint(1, 2)
-            rates = mixing_rates(rng, levels, rng.randint(2, 4), 2) if rng.random() < 0.7 else random_rates(rng, 3, levels, 2)
+            rates = mixing_rates(rng, levels, rng.randint(2, 4),
+                                 2) if rng.random() < 0.7 else random_rates(rng, 3, levels, 2)
             costs = [random_pair(rng, 3) for _ in rates]
             value = least_cost(rates, costs)
             others = [changed(value, rng) for _ in range(25)] + [shifted(value, rng) for _ in range(25)]

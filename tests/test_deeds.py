@@ -153,7 +153,8 @@ class Plants(unittest.TestCase):
             [plant_text(first["a"]), is_plant(first["a"]), is_plant((((ZERO, FOUR),), (), (ONE,)))],
             ["[0 4]; 1/2 (1) (-1)", True, False])
         self.assertEqual(
-            [plant_text(behind(first, ("corner", "a", 0, (ZERO,)))["a"]), plant_text(behind(first, ("put", "a", "a"))["a"]),
+            [plant_text(behind(first, ("corner", "a", 0, (ZERO,)))["a"]),
+             plant_text(behind(first, ("put", "a", "a"))["a"]),
              behind(first, ("away", "a"))],
             ["[0 4]; 1/2 (1) (-1) (0)", "[0 4]; 1/2 (1) (-1); 1/2 (1) (-1)", {}])
         with self.assertRaises(UnknownName) as caught:
@@ -167,11 +168,14 @@ class Plants(unittest.TestCase):
         for value, told in [
                 ((LINE, (), ()), True), ((LINE, (turn,), row(1)), True), ((LINE, (turn,) * 4, row(1, 1, 1, 1)), True),
                 ((LINE, (turn,) * 5, row(1, 1, 1, 1, 1)), False), ((LINE, (three,) * 3, row(1, 1, 1)), True),
-                ((LINE, (three,) * 4, row(1, 1, 1, 1)), False), ((LINE, (three,) * 3 + (three[:2],), row(1, 1, 1, 1)), True),
+                ((LINE, (three,) * 4, row(1, 1, 1, 1)), False),
+                ((LINE, (three,) * 3 + (three[:2],), row(1, 1, 1, 1)), True),
                 ((LINE, (three + (row(4),),), row(1)), False), ((LINE, (turn * 2,), row(1)), False),
                 ((LINE, ((),), row(1)), False), ((LINE, (turn,), ()), False), ((LINE, (turn,), row(1, 1)), False),
-                ((LINE, [turn], row(1)), False), ((LINE, (list(turn),), row(1)), False), ((LINE, (turn,), list(row(1))), False),
-                ([LINE, (), ()], False), ((LINE, ()), False), ((LINE, (), (), ()), False), ((list(LINE), (), ()), False),
+                ((LINE, [turn], row(1)), False), ((LINE, (list(turn),), row(1)), False),
+                ((LINE, (turn,), list(row(1))), False),
+                ([LINE, (), ()], False), ((LINE, ()), False), ((LINE, (), (), ()), False),
+                ((list(LINE), (), ()), False),
                 ((LINE, ((row(1, 1),),), row(1)), False), ((LINE * 2, ((row(1, 1),),), row(1)), True),
                 ((LINE, ((((True, 1),),),), row(1)), False), ((LINE, (turn,), ((1, True),)), False),
                 ((LINE, (turn,), ((2, 4),)), False), ((((FOUR, ZERO),), (), ()), False), (((), (), ()), False),
@@ -211,15 +215,18 @@ class Behind(unittest.TestCase):
         two = {"a": FIRST["a"], "b": (((LESS, ONE),), ((row(5),), (row(6), row(7))), row(8, 9))}
         a, b = two["a"], two["b"]
         for deed, name, plant in [
-                (("room", "a", ((LESS, ONE),)), "a", (((LESS, ONE),),) + a[1:]), (("room", "c", LINE * 3), "c", (LINE * 3, (), ())),
+                (("room", "a", ((LESS, ONE),)), "a", (((LESS, ONE),),) + a[1:]),
+                (("room", "c", LINE * 3), "c", (LINE * 3, (), ())),
                 (("turn", "a", (row(5),), (-3, 1)), "a", (LINE, a[1] + ((row(5),),), ((1, 2), (-3, 1)))),
                 (("turn", "a", a[1][0], (1, 2)), "a", (LINE, a[1] * 2, a[2] * 2)),
                 (("corner", "b", 0, row(0)), "b", (b[0], ((row(5), row(0)), b[1][1]), b[2])),
                 (("corner", "b", 1, row(5)), "b", (b[0], (b[1][0], (row(6), row(7), row(5))), b[2])),
-                (("drop", "b", 0), "b", (b[0], b[1][1:], b[2][1:])), (("drop", "b", 1), "b", (b[0], b[1][:1], b[2][:1])),
+                (("drop", "b", 0), "b", (b[0], b[1][1:], b[2][1:])),
+                (("drop", "b", 1), "b", (b[0], b[1][:1], b[2][:1])),
                 (("drop", "a", 0), "a", (LINE, (), ())), (("cost", "b", 0, (0, 1)), "b", (b[0], b[1], row(0, 9))),
                 (("cost", "b", 1, (0, 1)), "b", (b[0], b[1], row(8, 0))),
-                (("put", "a", "b"), "a", (LINE, a[1] + b[1], a[2] + b[2])), (("put", "b", "a"), "b", (b[0], b[1] + a[1], b[2] + a[2])),
+                (("put", "a", "b"), "a", (LINE, a[1] + b[1], a[2] + b[2])),
+                (("put", "b", "a"), "b", (b[0], b[1] + a[1], b[2] + a[2])),
                 (("put", "b", "b"), "b", (b[0], b[1] * 2, b[2] * 2))]:
             told = behind(two, deed)
             self.assertEqual(told, {**two, name: plant}, deed)
@@ -245,34 +252,45 @@ class Behind(unittest.TestCase):
                 (("room", "a", LINE * 2), ("BadDeed",)), (("turn", "a", (row(1, 1),), ONE), ("BadDeed",)),
                 (("turn", "b", turn, ONE), ("BadDeed",)), (("corner", "a", 0, row(1, 1)), ("BadDeed",)),
                 (("corner", "a", 0, (ONE,)), ("BadDeed",)), (("corner", "a", 0, (LESS,)), ("BadDeed",)),
-                (("corner", "a", 1, row(5)), ("BadDeed",)), (("drop", "a", 1), ("BadDeed",)), (("drop", "c", 0), ("BadDeed",)),
+                (("corner", "a", 1, row(5)), ("BadDeed",)), (("drop", "a", 1), ("BadDeed",)),
+                (("drop", "c", 0), ("BadDeed",)),
                 (("cost", "a", 1, ONE), ("BadDeed",)), (("cost", "a", 10 ** 150, ONE), ("BadDeed",)),
                 (("put", "a", "b"), ("BadDeed",)), (("put", "b", "a"), ("BadDeed",)), (("put", "b", "c"), ("BadDeed",)),
                 (("put", "a", "x"), ("UnknownName", "x")), (("put", "x", "y"), ("UnknownName", "x")),
-                (("put", "x", "A"), ("BadName", "A")), (("put", "A", "B"), ("BadName", "A")), (("put", "a", ""), ("BadName", "")),
+                (("put", "x", "A"), ("BadName", "A")), (("put", "A", "B"), ("BadName", "A")),
+                (("put", "a", ""), ("BadName", "")),
                 (("turn", "x", turn, ONE), ("UnknownName", "x")), (("corner", "x", 0, row(5)), ("UnknownName", "x")),
                 (("drop", "x", 0), ("UnknownName", "x")), (("cost", "x", 0, ONE), ("UnknownName", "x")),
                 (("away", "x"), ("UnknownName", "x")), (("away", "aa"), ("UnknownName", "aa")),
                 (("room", "abcdefghi", LINE), ("BadName", "abcdefghi")), (("room", "", LINE), ("BadName", "")),
                 (("room", "a1", LINE), ("BadName", "a1")), (("room", " a", LINE), ("BadName", " a")),
-                (("room", "a\n", LINE), ("BadName", "a\n")), (("away", None), ("BadName", None)), (("away", 1), ("BadName", 1)),
-                (("away", []), ("BadName", [])), (("away", {"a": [1]}), ("BadName", {"a": [1]})), (("away", True), ("BadName", True)),
+                (("room", "a\n", LINE), ("BadName", "a\n")), (("away", None), ("BadName", None)),
+                (("away", 1), ("BadName", 1)),
+                (("away", []), ("BadName", [])), (("away", {"a": [1]}), ("BadName", {"a": [1]})),
+                (("away", True), ("BadName", True)),
                 (("away", ("a",)), ("BadName", ("a",))), (("away", ([],)), ("BadName", ([],))),
-                (("drop", [], 9), ("BadName", [])), (("room", "A", None), ("BadDeed",)), (("turn", [], (), ONE), ("BadDeed",)),
-                (("turn", "a", turn + turn, ONE), ("BadDeed",)), (("turn", "a", (row(1), row(1, 1)), ONE), ("BadDeed",)),
-                (("turn", "a", (row(1), row(2), row(3), row(4)), ONE), ("BadDeed",)), (("turn", "a", list(turn), ONE), ("BadDeed",)),
+                (("drop", [], 9), ("BadName", [])), (("room", "A", None), ("BadDeed",)),
+                (("turn", [], (), ONE), ("BadDeed",)),
+                (("turn", "a", turn + turn, ONE), ("BadDeed",)),
+                (("turn", "a", (row(1), row(1, 1)), ONE), ("BadDeed",)),
+                (("turn", "a", (row(1), row(2), row(3), row(4)), ONE), ("BadDeed",)),
+                (("turn", "a", list(turn), ONE), ("BadDeed",)),
                 (("turn", "a", (), ONE), ("BadDeed",)), (("turn", "a", turn, 1), ("BadDeed",)),
                 (("turn", "a", turn, (2, 2)), ("BadDeed",)), (("turn", "a", (row(1, 1, 1, 1, 1),), ONE), ("BadDeed",)),
                 (("turn", "a", ((),), ONE), ("BadDeed",)), (("turn", "a", ([ONE],), ONE), ("BadDeed",)),
                 (("corner", "a", -1, row(5)), ("BadDeed",)), (("corner", "a", False, row(5)), ("BadDeed",)),
                 (("corner", "a", "0", row(5)), ("BadDeed",)), (("corner", "a", 0, ()), ("BadDeed",)),
                 (("corner", "a", 0, list(row(5))), ("BadDeed",)), (("corner", "a", 0, row(5) * 5), ("BadDeed",)),
-                (("drop", "a", False), ("BadDeed",)), (("drop", "a", -1), ("BadDeed",)), (("drop", "a", None), ("BadDeed",)),
+                (("drop", "a", False), ("BadDeed",)), (("drop", "a", -1), ("BadDeed",)),
+                (("drop", "a", None), ("BadDeed",)),
                 (("drop", "a"), ("BadDeed",)), (("drop", "a", 0, 0), ("BadDeed",)), (["drop", "a", 0], ("BadDeed",)),
                 (("cost", "a", 0, 1), ("BadDeed",)), (("cost", "a", 0, (1, True)), ("BadDeed",)),
-                (("cost", "a", False, ONE), ("BadDeed",)), (("away",), ("BadDeed",)), (("away", "a", "b"), ("BadDeed",)),
-                (("room", "a", list(LINE)), ("BadDeed",)), (("room", "a", ((ONE, ZERO),)), ("BadDeed",)), ((), ("BadDeed",)),
-                ((None, "a"), ("BadDeed",)), (([], "a"), ("BadDeed",)), (({}, "a"), ("BadDeed",)), (("Away", "a"), ("BadDeed",)),
+                (("cost", "a", False, ONE), ("BadDeed",)), (("away",), ("BadDeed",)),
+                (("away", "a", "b"), ("BadDeed",)),
+                (("room", "a", list(LINE)), ("BadDeed",)), (("room", "a", ((ONE, ZERO),)), ("BadDeed",)),
+                ((), ("BadDeed",)),
+                ((None, "a"), ("BadDeed",)), (([], "a"), ("BadDeed",)), (({}, "a"), ("BadDeed",)),
+                (("Away", "a"), ("BadDeed",)),
                 ("away a", ("BadDeed",)), (None, ("BadDeed",)), ((("away", "a"),), ("BadDeed",))]:
             self.assertEqual(repr(outcome(behind, state, deed)), repr(told), deed)
             self.assertEqual(repr(own_behind(state, deed)), repr(told), deed)
@@ -302,13 +320,17 @@ class Behind(unittest.TestCase):
         self.assertEqual(len(behind(state, ("turn", "na", (row(1),), ONE))), 12)
         one, two, three = (row(1),), (row(1), row(2)), (row(1), row(2), row(3))
         state = {"a": (LINE, (one,) * 4, row(1, 1, 1, 1)), "b": (LINE, (three,) * 3, row(1, 1, 1)),
-                 "c": (LINE, (three, three, three, two), row(1, 1, 1, 1)), "d": (LINE, (one,), row(1)), "e": (LINE, (), ()),
+                 "c": (LINE, (three, three, three, two), row(1, 1, 1, 1)), "d": (LINE, (one,), row(1)),
+                 "e": (LINE, (), ()),
                  "f": (LINE, (three, three), row(1, 1))}
         for deed, told in [
                 (("turn", "a", one, ONE), "TooMany"), (("put", "a", "d"), "TooMany"), (("put", "a", "e"), None),
-                (("turn", "b", three, ONE), "TooMany"), (("turn", "b", two, ONE), None), (("turn", "b", one, ONE), None),
-                (("corner", "b", 0, row(4)), "TooMany"), (("corner", "c", 3, row(3)), "TooMany"), (("corner", "a", 0, row(2)), None),
-                (("put", "b", "d"), None), (("put", "d", "b"), None), (("put", "b", "b"), "TooMany"), (("put", "d", "d"), None),
+                (("turn", "b", three, ONE), "TooMany"), (("turn", "b", two, ONE), None),
+                (("turn", "b", one, ONE), None),
+                (("corner", "b", 0, row(4)), "TooMany"), (("corner", "c", 3, row(3)), "TooMany"),
+                (("corner", "a", 0, row(2)), None),
+                (("put", "b", "d"), None), (("put", "d", "b"), None), (("put", "b", "b"), "TooMany"),
+                (("put", "d", "d"), None),
                 (("put", "f", "f"), "TooMany"), (("put", "d", "f"), None), (("room", "a", ((LESS, ONE),)), None)]:
             value = outcome(behind, state, deed)
             self.assertEqual(value[0] if type(value) is tuple else None, told, deed)
@@ -343,7 +365,8 @@ class Behind(unittest.TestCase):
         for deed in ANY_VALUES:
             self.assertEqual(outcome(behind, FIRST, deed), ("BadDeed",))
             for word in PARTS:
-                for wrong in ((word, deed), (word, "a", deed), (word, "a", 0, deed), (word, "a", deed, (ONE,)), (deed, "a", 0), (word, "a", "b", "c", deed)):
+                for wrong in ((word, deed), (word, "a", deed), (word, "a", 0, deed), (word, "a", deed, (ONE,)),
+                              (deed, "a", 0), (word, "a", "b", "c", deed)):
                     self.assertEqual(repr(outcome(behind, FIRST, wrong)), repr(own_behind(FIRST, wrong)), wrong)
 
     def test_errors_bear_copies(self):
@@ -357,16 +380,21 @@ class Behind(unittest.TestCase):
 class Texts(unittest.TestCase):
     def test_examples(self):
         self.assertEqual(
-            [deed_text(("turn", "a", ((ONE,), (LESS,)), (1, 2))), read_deed("drop a 0"), read_deed("room b [0 4] [-1/2 1]")],
+            [deed_text(("turn", "a", ((ONE,), (LESS,)), (1, 2))), read_deed("drop a 0"),
+             read_deed("room b [0 4] [-1/2 1]")],
             ["turn a 1/2 (1) (-1)", ("drop", "a", 0), ("room", "b", (((0, 1), (4, 1)), ((-1, 2), (1, 1))))])
 
     def test_each_word(self):
         for deed, text in [
-                (("room", "a", LINE), "room a [0 4]"), (("turn", "bc", (row(1, "-1/2"), row(0, 3)), (-7, 2)), "turn bc -7/2 (1 -1/2) (0 3)"),
-                (("corner", "a", 12, row("1/3")), "corner a 12 (1/3)"), (("drop", "zzzzzzzz", 999999999), "drop zzzzzzzz 999999999"),
-                (("cost", "a", 3, (5, 1)), "cost a 3 5"), (("cost", "a", 0, (-5, 3)), "cost a 0 -5/3"), (("put", "a", "b"), "put a b"),
+                (("room", "a", LINE), "room a [0 4]"),
+                (("turn", "bc", (row(1, "-1/2"), row(0, 3)), (-7, 2)), "turn bc -7/2 (1 -1/2) (0 3)"),
+                (("corner", "a", 12, row("1/3")), "corner a 12 (1/3)"),
+                (("drop", "zzzzzzzz", 999999999), "drop zzzzzzzz 999999999"),
+                (("cost", "a", 3, (5, 1)), "cost a 3 5"), (("cost", "a", 0, (-5, 3)), "cost a 0 -5/3"),
+                (("put", "a", "b"), "put a b"),
                 (("put", "a", "a"), "put a a"), (("away", "room"), "away room"), (("drop", "drop", 0), "drop drop 0"),
-                (("turn", "a", (row(1, 2, 3, 4),), ZERO), "turn a 0 (1 2 3 4)"), (("put", "put", "put"), "put put put")]:
+                (("turn", "a", (row(1, 2, 3, 4),), ZERO), "turn a 0 (1 2 3 4)"),
+                (("put", "put", "put"), "put put put")]:
             self.assertEqual(deed_text(deed), text)
             self.assertEqual(read_deed(text), deed)
 
@@ -391,18 +419,30 @@ class Texts(unittest.TestCase):
 
     def test_texts_of_none(self):
         for text in [
-                "", " ", "a", "room", "room ", "room a", "room a ", "room a [0 4] ", " room a [0 4]", "room  a [0 4]", "room a  [0 4]",
-                "room a [4 0]", "room a [0 0]", "room a [0 4]  [0 4]", "room a [0 4] [0 4] [0 4] [0 4] [0 4]", "room A [0 4]",
-                "room abcdefghi [0 4]", "room a [0 4/2]", "room a [00 4]", "room a [0 4]\n", "turn a", "turn a 1", "turn a 1 ",
-                "turn a (1)", "turn a 1 (1) (1)", "turn a 1 (1) (1 2)", "turn a 1 (1) (2) (3) (4)", "turn a 1  (1)", "turn a 1 (1)  (2)",
-                "turn a 1 (1)(2)", "turn a 1 (1) ", "turn a 1 ()", "turn a 2/2 (1)", "turn a -0 (1)", "turn a 1 (1 2 3 4 5)",
-                "turn a +1 (1)", "corner a (1)", "corner a 0", "corner a 0 ", "corner a 0 (1) (2)", "corner a -1 (1)", "corner a 00 (1)",
-                "corner a 01 (1)", "corner a 1234567890 (1)", "corner a 0 1", "corner a 0  (1)", "corner a 0 (1) ", "corner A 0 (1)",
-                "drop a", "drop a ", "drop a -0", "drop a -1", "drop a 00", "drop a 01", "drop a 1.0", "drop a 1000000000", "drop a 1 ",
-                "drop a 1 1", "drop 1", "drop a1 0", "drop a x", "cost a 0", "cost a 0 ", "cost a 0 1 ", "cost a 0 1 1", "cost a 0 2/4",
-                "cost a 0 1/1", "cost a 0 1/0", "cost a 0 -0", "cost a 1", "cost a  1", "cost a 1234567890 1", "put a", "put a ", "put a b ",
-                "put a b c", "put  a b", "put a  b", "put a B", "put a 1", "put a abcdefghi", "away", "away ", "away a ", "away  a",
-                "away a b", "away A", "away a1", "Away a", "undo", "show a", "held a", "turn a 1/2", "room a (1)", "room a 1", "away\ta",
+                "", " ", "a", "room", "room ", "room a", "room a ", "room a [0 4] ", " room a [0 4]", "room  a [0 4]",
+                "room a  [0 4]",
+                "room a [4 0]", "room a [0 0]", "room a [0 4]  [0 4]", "room a [0 4] [0 4] [0 4] [0 4] [0 4]",
+                "room A [0 4]",
+                "room abcdefghi [0 4]", "room a [0 4/2]", "room a [00 4]", "room a [0 4]\n", "turn a", "turn a 1",
+                "turn a 1 ",
+                "turn a (1)", "turn a 1 (1) (1)", "turn a 1 (1) (1 2)", "turn a 1 (1) (2) (3) (4)", "turn a 1  (1)",
+                "turn a 1 (1)  (2)",
+                "turn a 1 (1)(2)", "turn a 1 (1) ", "turn a 1 ()", "turn a 2/2 (1)", "turn a -0 (1)",
+                "turn a 1 (1 2 3 4 5)",
+                "turn a +1 (1)", "corner a (1)", "corner a 0", "corner a 0 ", "corner a 0 (1) (2)", "corner a -1 (1)",
+                "corner a 00 (1)",
+                "corner a 01 (1)", "corner a 1234567890 (1)", "corner a 0 1", "corner a 0  (1)", "corner a 0 (1) ",
+                "corner A 0 (1)",
+                "drop a", "drop a ", "drop a -0", "drop a -1", "drop a 00", "drop a 01", "drop a 1.0",
+                "drop a 1000000000", "drop a 1 ",
+                "drop a 1 1", "drop 1", "drop a1 0", "drop a x", "cost a 0", "cost a 0 ", "cost a 0 1 ",
+                "cost a 0 1 1", "cost a 0 2/4",
+                "cost a 0 1/1", "cost a 0 1/0", "cost a 0 -0", "cost a 1", "cost a  1", "cost a 1234567890 1", "put a",
+                "put a ", "put a b ",
+                "put a b c", "put  a b", "put a  b", "put a B", "put a 1", "put a abcdefghi", "away", "away ",
+                "away a ", "away  a",
+                "away a b", "away A", "away a1", "Away a", "undo", "show a", "held a", "turn a 1/2", "room a (1)",
+                "room a 1", "away\ta",
                 "drop\na 0", "x a 0 1", "x a 0", "put", "corner", "cost", "drop"]:
             with self.assertRaises(BadText) as caught:
                 read_deed(text)
@@ -413,7 +453,8 @@ class Texts(unittest.TestCase):
         self.assertEqual(read_deed(f"cost a 0 {n}"), ("cost", "a", 0, (10 ** 199, 1)))
         self.assertEqual(read_deed(f"cost a 0 -{n}/{n[:-1]}1"), ("cost", "a", 0, (-10 ** 199, 10 ** 199 + 1)))
         self.assertEqual(read_deed(f"turn a -{n} ({n})"), ("turn", "a", ((((10 ** 199, 1),),)), (-10 ** 199, 1)))
-        for text in (f"cost a 0 {more}", f"cost a 0 1/{more}", f"turn a {more} (1)", f"turn a 1 ({more})", f"room a [0 {more}]",
+        for text in (f"cost a 0 {more}", f"cost a 0 1/{more}", f"turn a {more} (1)", f"turn a 1 ({more})",
+                     f"room a [0 {more}]",
                      f"corner a 0 (-{more})", f"corner a {n} (1)"):
             self.assertEqual(outcome(read_deed, text), ("BadText", 0))
         self.assertEqual(read_deed("drop a 123456789"), ("drop", "a", 123456789))

@@ -126,7 +126,8 @@ class Own:
             return error
         room, mill, _ = plant
         rates = [turn[k] for turn, k in zip(mill, question[2])] if len(question) > 2 else None
-        return {"held": lambda: held(mill), "margin": lambda: margin(mill), "kept": lambda: kept(room, rates, question[3]),
+        return {"held": lambda: held(mill), "margin": lambda: margin(mill),
+                "kept": lambda: kept(room, rates, question[3]),
                 "way": lambda: way(room, rates, *question[3:])}[question[0]]()
 
     def keep(self, label, question):
@@ -165,7 +166,8 @@ def picture(house):
     while outcome(house.state_at, many) != ("NoMoment", many):
         many += 1
     return (house.number(), house.state(), house.present(), house.branches(), house.labels(),
-            [(house.state_at(k), house.elders(k)) for k in range(many)], [house.paper(label) for label in house.labels()])
+            [(house.state_at(k), house.elders(k)) for k in range(many)],
+            [house.paper(label) for label in house.labels()])
 
 
 def own_picture(own):
@@ -195,11 +197,13 @@ class Moments(unittest.TestCase):
     def test_examples(self):
         house = House()
         self.assertEqual(
-            [house.do(("room", "a", ((ZERO, FOUR),))), house.do(("turn", "a", ((ONE,), (ZERO,)), ONE)), house.branch("side"),
+            [house.do(("room", "a", ((ZERO, FOUR),))), house.do(("turn", "a", ((ONE,), (ZERO,)), ONE)),
+             house.branch("side"),
              house.do(("turn", "a", ((LESS,),), ONE))],
             [1, 2, None, 3])
         self.assertEqual(
-            [house.keep("p", ("held", "a"))[0], house.keep("q", ("kept", "a", (0, 0), (ONE,)))[0], house.ask(("held", "a"))[0],
+            [house.keep("p", ("held", "a"))[0], house.keep("q", ("kept", "a", (0, 0), (ONE,)))[0],
+             house.ask(("held", "a"))[0],
              house.undo(), house.today("q"), house.redo()],
             ["held", "kept", "held", 2, ("gone",), 3])
         self.assertEqual(
@@ -308,7 +312,8 @@ class Moments(unittest.TestCase):
         house = built(("room", "a", LINE))
         for name in ("x", "abcdefgh", "m", "y"):
             self.assertIsNone(house.branch(name))
-        for name in ("", "A", "abcdefghi", "a b", "a1", None, 1, True, (), [], {}, ["x"], ("x",), "main", "x", {"x": []}):
+        for name in ("", "A", "abcdefghi", "a b", "a1", None, 1, True, (), [], {}, ["x"], ("x",), "main", "x",
+                     {"x": []}):
             with self.assertRaises(BadName) as caught:
                 house.branch(name)
             self.assertEqual(repr(caught.exception.name), repr(name))
@@ -356,8 +361,10 @@ class Moments(unittest.TestCase):
         house.do(("cost", "a", 0, FOUR))
         house.keep("p", ("held", "a"))
         seen = picture(house)
-        calls = [lambda: house.do(None), lambda: house.do(("away", "z")), lambda: house.merge("main"), lambda: house.merge("z"),
-                 lambda: house.branch("x"), lambda: house.go("z"), lambda: house.redo(), lambda: house.keep("p", ("held", "a")),
+        calls = [lambda: house.do(None), lambda: house.do(("away", "z")), lambda: house.merge("main"),
+                 lambda: house.merge("z"),
+                 lambda: house.branch("x"), lambda: house.go("z"), lambda: house.redo(),
+                 lambda: house.keep("p", ("held", "a")),
                  lambda: house.keep("q", ("held", "z")), lambda: house.ask(None), lambda: house.paper("z"),
                  lambda: house.today("z"), lambda: house.state_at(99)]
         for call in calls:
@@ -384,7 +391,8 @@ class Merges(unittest.TestCase):
     BASE = [("room", "a", LINE), ("turn", "a", (UP,), ONE), ("room", "b", LINE)]
 
     def test_one_side(self):
-        house = self.sides(self.BASE, [("room", "c", LINE)], [("cost", "a", 0, FOUR), ("away", "b"), ("room", "d", LINE)])
+        house = self.sides(self.BASE, [("room", "c", LINE)],
+                           [("cost", "a", 0, FOUR), ("away", "b"), ("room", "d", LINE)])
         number, other = house.number(), 6
         self.assertEqual(house.merge("x"), 8)
         self.assertEqual(house.elders(8), (number, other))
@@ -420,7 +428,8 @@ class Merges(unittest.TestCase):
                 house.merge("x")
             self.assertEqual(caught.exception.names, (mine[0][1],))
         house = self.sides(self.BASE, [("room", "n", LINE), ("away", "b"), ("cost", "a", 0, FOUR), ("room", "c", LINE)],
-                           [("cost", "a", 0, ZERO), ("room", "b", ((LESS, ONE),)), ("room", "n", ((LESS, ONE),)), ("room", "c", LINE)])
+                           [("cost", "a", 0, ZERO), ("room", "b", ((LESS, ONE),)), ("room", "n", ((LESS, ONE),)),
+                            ("room", "c", LINE)])
         with self.assertRaises(Clash) as caught:
             house.merge("x")
         self.assertEqual(caught.exception.names, ("a", "b", "n"))
@@ -459,7 +468,8 @@ class Merges(unittest.TestCase):
         house.undo()
         house.undo()
         house.do(("room", "d", LINE))
-        for one, other, told in ((2, 3, 1), (3, 2, 1), (2, 2, 2), (2, 1, 1), (0, 3, 0), (4, 3, 0), (4, 4, 4), (1, 3, 1)):
+        for one, other, told in ((2, 3, 1), (3, 2, 1), (2, 2, 2), (2, 1, 1), (0, 3, 0), (4, 3, 0), (4, 4, 4),
+                                 (1, 3, 1)):
             self.assertEqual(house.common(one, other), told)
 
     def test_twelve_names(self):
@@ -496,7 +506,8 @@ class Merges(unittest.TestCase):
         self.assertEqual(house.number(), 199)
         seen = picture(house)
         self.assertEqual(len(seen[5]), 200)
-        for deed, error in ((("cost", "a", 0, ONE), TooMany), (("cost", "a", 1, ONE), BadDeed), (("away", "A"), BadName),
+        for deed, error in ((("cost", "a", 0, ONE), TooMany), (("cost", "a", 1, ONE), BadDeed),
+                            (("away", "A"), BadName),
                             (("away", "x"), UnknownName), (None, BadDeed), (("away", "a"), TooMany)):
             with self.assertRaises(error):
                 house.do(deed)
@@ -513,7 +524,8 @@ class Merges(unittest.TestCase):
 
 class Asks(unittest.TestCase):
     def house(self):
-        return built(("room", "a", LINE), ("turn", "a", (UP, row(2)), ONE), ("turn", "a", (DOWN,), ONE), ("room", "e", LINE),
+        return built(("room", "a", LINE), ("turn", "a", (UP, row(2)), ONE), ("turn", "a", (DOWN,), ONE),
+                     ("room", "e", LINE),
                      ("room", "b", LINE * 2), ("turn", "b", (row(2, -1),), ONE), ("turn", "b", (row(-1, 2),), ONE))
 
     def test_each_question(self):
@@ -537,11 +549,14 @@ class Asks(unittest.TestCase):
             own.new(house.state_at(k), (k - 1,))
         cases = [
             (None, ("BadDeed",)), ((), ("BadDeed",)), (["held", "a"], ("BadDeed",)), (("held",), ("BadDeed",)),
-            (("held", "a", 0), ("BadDeed",)), (("hold", "a"), ("BadDeed",)), (([], "a"), ("BadDeed",)), ((None, "a"), ("BadDeed",)),
+            (("held", "a", 0), ("BadDeed",)), (("hold", "a"), ("BadDeed",)), (([], "a"), ("BadDeed",)),
+            ((None, "a"), ("BadDeed",)),
             (("kept", "a", (0, 0)), ("BadDeed",)), (("kept", "a", (0, 0), row(1), row(1)), ("BadDeed",)),
-            (("way", "a", (0, 0), row(1)), ("BadDeed",)), (("margin", "a", ()), ("BadDeed",)), (({}, "a"), ("BadDeed",)),
+            (("way", "a", (0, 0), row(1)), ("BadDeed",)), (("margin", "a", ()), ("BadDeed",)),
+            (({}, "a"), ("BadDeed",)),
             (("held", "A"), ("BadName", "A")), (("held", None), ("BadName", None)), (("held", []), ("BadName", [])),
-            (("held", ("a", [])), ("BadName", ("a", []))), (("margin", True), ("BadName", True)), (("held", ""), ("BadName", "")),
+            (("held", ("a", [])), ("BadName", ("a", []))), (("margin", True), ("BadName", True)),
+            (("held", ""), ("BadName", "")),
             (("kept", "A", None, None), ("BadName", "A")), (("held", "x"), ("UnknownName", "x")),
             (("kept", "x", None, None), ("UnknownName", "x")), (("way", "x", 1, 2, 3), ("UnknownName", "x")),
             (("held", "e"), ("BadDeed",)), (("margin", "e"), ("BadDeed",)), (("kept", "e", (), row(1)), ("BadDeed",)),
@@ -600,8 +615,10 @@ class Asks(unittest.TestCase):
         house = self.house()
         for label in "abcdefgh":
             house.keep(label, ("held", "a"))
-        for label, question, error in (("i", ("held", "a"), TooMany), ("i", ("held", "x"), UnknownName), ("i", None, BadDeed),
-                                       ("i", ("held", "A"), BadName), ("a", ("held", "a"), BadName), ("I", None, BadName)):
+        for label, question, error in (("i", ("held", "a"), TooMany), ("i", ("held", "x"), UnknownName),
+                                       ("i", None, BadDeed),
+                                       ("i", ("held", "A"), BadName), ("a", ("held", "a"), BadName),
+                                       ("I", None, BadName)):
             with self.assertRaises(error):
                 house.keep(label, question)
         self.assertEqual(house.labels(), list("abcdefgh"))
@@ -677,7 +694,8 @@ class AgainstAnother(unittest.TestCase):
                 self.assertEqual(repr(outcome(getattr(house, word), *given)), repr(wanted), (word, given))
                 told.append(wanted[0] if type(wanted) is tuple else word)
             self.assertEqual(picture(house), own_picture(own))
-        for word in ("do", "undo", "redo", "branch", "go", "merge", "Clash", "NothingDone", "TooMany", "BadName", "UnknownName",
+        for word in ("do", "undo", "redo", "branch", "go", "merge", "Clash", "NothingDone", "TooMany", "BadName",
+                     "UnknownName",
                      "BadDeed", "held", "kept", "gone"):
             self.assertGreater(told.count(word), 5, word)
 

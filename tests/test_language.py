@@ -180,7 +180,8 @@ class Language(unittest.TestCase):
 
     def test_classes(self):
         told = {node.name: node for _, node in self.walk(ast.ClassDef)}
-        methods = {name: [one.name for one in node.body if isinstance(one, ast.FunctionDef)] for name, node in told.items()}
+        methods = {name: [one.name for one in node.body if isinstance(one, ast.FunctionDef)] for name,
+                   node in told.items()}
         stored = {name: {one.attr for one in ast.walk(node)
                          if isinstance(one, ast.Attribute) and isinstance(one.ctx, ast.Store)}
                   for name, node in told.items()}

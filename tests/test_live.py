@@ -60,7 +60,8 @@ def held_mill(rng, levels, most=9, corners=3):
 class Answers(unittest.TestCase):
     def test_examples(self):
         self.assertEqual(
-            [answers(MILL, UP), answers(MILL, DOWN), answers(MILL, ((0, 1),)), answers(WILD, UP)], [[1], [0], [0, 1], []])
+            [answers(MILL, UP), answers(MILL, DOWN), answers(MILL, ((0, 1),)), answers(WILD, UP)],
+            [[1], [0], [0, 1], []])
 
     def test_against_products(self):
         rng = rng_for(1)

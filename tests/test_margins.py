@@ -6,7 +6,8 @@ from itertools import product as all_of
 from ledlevels.held import held
 from ledlevels.margins import bears, judge_bears, judge_margin, margin
 from tests.helping import (
-    ANY_VALUES, GREAT, all_basic, are_pairs, changed, dot, is_pair, pair, random_row, real, rng_for, row, shifted, sum_at)
+    ANY_VALUES, GREAT, all_basic, are_pairs, changed, dot, is_pair, pair, random_row, real, rng_for, row, shifted,
+    sum_at)
 from tests.test_held import chosen, mostly_held, own_choices, random_mill
 from tests.test_live import held_mill
 
@@ -213,7 +214,8 @@ class JudgeBears(unittest.TestCase):
             (("bears", [one, two, three, four], 0), ("form",)), (None, ("form",)), ("bears", ("form",)),
             (("bears", [row("-1/4", "5/4"), two, three, four]), ("share", 0)),
             (("bears", [one, row(1, 1), three, four]), ("share", 1)),
-            (("bears", [one, two, row(0, 0), four]), ("share", 2)), (("bears", [two, two, row(0, 0), four]), ("rates", 0)),
+            (("bears", [one, two, row(0, 0), four]), ("share", 2)),
+            (("bears", [two, two, row(0, 0), four]), ("rates", 0)),
             (("bears", [one, one, three, four]), ("rates", 1)), (("bears", [one, two, one, row(2, 0)]), ("rates", 2)),
             (("bears", [one, two, three, three]), ("rates", 3)), (("bears", [four, four, four, four]), ("rates", 0)),
             (("bears", [two, one, three, four]), ("rates", 0)),

@@ -67,7 +67,8 @@ class Peak(unittest.TestCase):
         words = []
         for _ in range(200):
             levels, many, most = rng.randint(1, 4), rng.randint(2, 8), rng.choice([1, 9, 999])
-            rates = mixing_rates(rng, levels, many, most) if rng.random() < 0.5 else random_rates(rng, many, levels, most, 0)
+            rates = mixing_rates(rng, levels, many,
+                                 most) if rng.random() < 0.5 else random_rates(rng, many, levels, most, 0)
             rng.shuffle(rates)
             powers = [random_pair(rng, rng.choice([1, 3, 999999])) for _ in rates]
             value = self.right(rates, powers)
@@ -109,7 +110,8 @@ class JudgePeak(unittest.TestCase):
             (("peak", (1, 1), shares, DOWN), ("power", 0)), (("peak", (1, 1), half, UP), ("power", 0)),
             (("peak", (4, 1), shares, UP), ("slope", 2)), (("peak", (5, 1), half, UP), ("slope", 2)),
             (("peak", (6, 1), half, UP), ("slope", 1)), (("peak", (6, 1), half, DOWN), ("slope", 0)),
-            (("peak", (3, 1), row("1/3", 0, "2/3"), UP), ("shares",)), (("peak", (3, 1), row(2, 0, 1), UP), ("shares",)),
+            (("peak", (3, 1), row("1/3", 0, "2/3"), UP), ("shares",)),
+            (("peak", (3, 1), row(2, 0, 1), UP), ("shares",)),
             (("peak", (3, 1), row(1, -1, 1), UP), ("shares",)), (("peak", (0, 1), row(0, 0, 0), UP), ("shares",)),
             (("climbs", UP), ("slope", 1)), (("climbs", DOWN), ("slope", 0)), (("climbs", row(1, 1)), ("form",)),
             (("climbs", list(UP)), ("form",)), (("climbs",), ("form",)), (["climbs", UP], ("form",)),
@@ -126,9 +128,11 @@ class JudgePeak(unittest.TestCase):
         self.assertIsNone(judge_peak([UP], [(1, 1)], ("climbs", UP)))
         self.assertIsNone(judge_peak([row(0, 0)], [(1, 1)], ("peak", (1, 1), row(1), row(7, 7))))
         # The number of a turn is told of all turns, also if others of more power stand ahead of it.
-        self.assertEqual(judge_peak([row(0), UP, DOWN], [(9, 1), (2, 1), (5, 1)], ("peak", (5, 1), row(0, "1/2", "1/2"), DOWN)),
+        self.assertEqual(judge_peak([row(0), UP, DOWN], [(9, 1), (2, 1), (5, 1)],
+                                    ("peak", (5, 1), row(0, "1/2", "1/2"), DOWN)),
                          ("slope", 1))
-        self.assertEqual(judge_peak([row(0), UP, DOWN], [(9, 1), (2, 1), (5, 1)], ("peak", (5, 1), row("1/2", "1/4", "1/4"), UP)),
+        self.assertEqual(judge_peak([row(0), UP, DOWN], [(9, 1), (2, 1), (5, 1)],
+                                    ("peak", (5, 1), row("1/2", "1/4", "1/4"), UP)),
                          ("power", 0))
 
     def test_any_value(self):
@@ -136,7 +140,8 @@ class JudgePeak(unittest.TestCase):
         told = []
         for _ in range(90):
             levels = rng.randint(1, 2)
-            rates = mixing_rates(rng, levels, rng.randint(2, 4), 2) if rng.random() < 0.7 else random_rates(rng, 3, levels, 2)
+            rates = mixing_rates(rng, levels, rng.randint(2, 4),
+                                 2) if rng.random() < 0.7 else random_rates(rng, 3, levels, 2)
             rng.shuffle(rates)
             powers = [random_pair(rng, 3) for _ in rates]
             value = peak(rates, powers)

@@ -101,14 +101,16 @@ def random_well(rng, most=30):
 
 def whole_rates(rng, levels, many, most=3, up=False):
     """Whole rates; those that go up alone lead to no ring."""
-    return [row(*[rng.randint(0 if up else -most, most) for _ in range(levels - 1)] + [rng.randint(1 if up else -most, most)])
+    return [row(*[rng.randint(0 if up else -most,
+                              most) for _ in range(levels - 1)] + [rng.randint(1 if up else -most, most)])
             for _ in range(many)]
 
 
 class Whole(unittest.TestCase):
     def test_examples(self):
         self.assertEqual(
-            [is_whole_room(WELL), is_whole_room(HALL), whole_places(WELL) == [ZERO, ONE, TWO], led_tick(WELL, [ONE], TWO, 0)],
+            [is_whole_room(WELL), is_whole_room(HALL), whole_places(WELL) == [ZERO, ONE, TWO],
+             led_tick(WELL, [ONE], TWO, 0)],
             [True, False, True, None])
 
     def test_rooms_and_rows(self):
@@ -118,8 +120,10 @@ class Whole(unittest.TestCase):
                 (((one, two),) * 4, True, False), (((one, two),) * 5, False, False), (((two, one),), False, False),
                 (((one, one),), False, False), ([(one, two)], False, False), (([one, two],), False, False),
                 ((), False, False), (one, False, False), ((one,), False, True), ((one, two), False, True),
-                ((one, half), False, False), ((half,), False, False), ((one,) * 4, False, True), ((one,) * 5, False, False),
-                ([one], False, False), (((True, 1),), False, False), (((1, True),), False, False), (((2, 2),), False, False),
+                ((one, half), False, False), ((half,), False, False), ((one,) * 4, False, True),
+                ((one,) * 5, False, False),
+                ([one], False, False), (((True, 1),), False, False), (((1, True),), False, False),
+                (((2, 2),), False, False),
                 (((0, 1), (GREAT, 1)), False, True), ((((-GREAT, 1), (GREAT, 1)),), True, False), (None, False, False),
                 ((None,), False, False), ({}, False, False), ("a", False, False), ((((True, 1), two),), False, False)]:
             self.assertIs(is_whole_room(value), room, value)
@@ -133,7 +137,8 @@ class Whole(unittest.TestCase):
             place = rng.choice(own_places(room))
             self.assertIs(is_whole_room(room), True)
             self.assertIs(is_whole_row(place), True)
-            for value in [changed(room, rng) for _ in range(10)] + [changed(place, rng) for _ in range(10)] + ANY_VALUES:
+            for value in [changed(room,
+                                  rng) for _ in range(10)] + [changed(place, rng) for _ in range(10)] + ANY_VALUES:
                 is_row = type(value) is tuple and 1 <= len(value) <= 4 and are_pairs(value, len(value))
                 rows.append(is_row and all(x[1] == 1 for x in value))
                 self.assertIs(is_whole_row(value), rows[-1], value)
@@ -167,7 +172,8 @@ class Whole(unittest.TestCase):
                     self.assertEqual(led_tick(room, tuple(rates), place, k), own_tick(room, rates, place, k))
         self.assertEqual(led_tick(WELL, [ONE], ONE, 0), TWO)
         self.assertEqual(led_tick(WELL, [row(0)], TWO, 0), TWO)
-        self.assertEqual(led_tick(whole_room((0, 10 ** 6), (0, 10 ** 6)), [row(1, 10 ** 6)], row(5, 0), 0), row(6, 10 ** 6))
+        self.assertEqual(led_tick(whole_room((0, 10 ** 6), (0, 10 ** 6)), [row(1, 10 ** 6)], row(5, 0), 0),
+                         row(6, 10 ** 6))
 
 
 class ByTicks(unittest.TestCase):
@@ -189,7 +195,8 @@ class ByTicks(unittest.TestCase):
              judge_ticks(WELL, [ONE], ONE, ("ranks", {ZERO: 2, ONE: 1, TWO: 0}))],
             [("lacks", ((2, 1),)), ("spare", ((0, 1),))])
         self.assertEqual(
-            [longest(WELL, [ONE], ZERO), longest(WELL, [ONE, BACK], ONE), staying(WELL, [ONE, BACK]) == [ZERO, ONE, TWO],
+            [longest(WELL, [ONE], ZERO), longest(WELL, [ONE, BACK], ONE),
+             staying(WELL, [ONE, BACK]) == [ZERO, ONE, TWO],
              staying(WELL, [ONE])],
             [2, None, True, []])
         self.assertEqual(
@@ -264,7 +271,8 @@ class JudgeTicks(unittest.TestCase):
         rates = [ONE, BACK]
         fine = {ZERO: 9, ONE: 4, TWO: 0}
         cases = [
-            (("ring", (), (0, 0, 1)), ZERO, None), (("ring", (0,), (0, 1, 0)), ZERO, None), (("ring", (0, 0, 1), (0, 0, 1)), ZERO, None),
+            (("ring", (), (0, 0, 1)), ZERO, None), (("ring", (0,), (0, 1, 0)), ZERO, None),
+            (("ring", (0, 0, 1), (0, 0, 1)), ZERO, None),
             (("ring", (), (0,)), ZERO, ("open",)), (("ring", (0,), (0,)), ZERO, ("open",)),
             (("ring", (0, 0), (1, 0)), ZERO, ("open",)), (("ring", (), (1,)), ZERO, ("leaves", 0)),
             (("ring", (0,), (1,)), ZERO, ("leaves", 1)), (("ring", (0, 0), (1, 1)), ZERO, ("leaves", 3)),
@@ -274,7 +282,8 @@ class JudgeTicks(unittest.TestCase):
             (("ring", [0], (0, 1, 0)), ZERO, ("form",)), (("ring", (0,), [0, 1, 0]), ZERO, ("form",)),
             (["ring", (), (0, 0, 1)], ZERO, ("form",)), (("ring", (0, 0, 1)), ZERO, ("form",)),
             (("ring", (), (0, 0, 1), ()), ZERO, ("form",)), (("rings", (), (0, 0, 1)), ZERO, ("form",)),
-            (("ring", (), ((0, 0), 1)), ZERO, ("form",)), (("ring", (), (0, "1")), ZERO, ("form",)), (None, ZERO, ("form",)),
+            (("ring", (), ((0, 0), 1)), ZERO, ("form",)), (("ring", (), (0, "1")), ZERO, ("form",)),
+            (None, ZERO, ("form",)),
             (("ranks", {}), ZERO, ("lacks", ZERO)), (("ranks", fine), ZERO, ("rank", TWO, 1)),
             (("ranks", {ZERO: 1, ONE: 0, TWO: 5}), ONE, ("rank", ONE, 0)),
         ]
@@ -285,22 +294,28 @@ class JudgeTicks(unittest.TestCase):
     def test_faults_of_ranks(self):
         fine = {ZERO: 9, ONE: 4, TWO: 0}
         cases = [
-            (fine, ZERO, None), ({TWO: 0, ONE: 4, ZERO: 9}, ZERO, None), ({ONE: 1, TWO: 0}, ONE, None), ({TWO: GREAT}, TWO, None),
+            (fine, ZERO, None), ({TWO: 0, ONE: 4, ZERO: 9}, ZERO, None), ({ONE: 1, TWO: 0}, ONE, None),
+            ({TWO: GREAT}, TWO, None),
             ({ZERO: 1, ONE: 0, TWO: 9}, ZERO, ("rank", ONE, 0)), ({ZERO: 4, ONE: 4, TWO: 0}, ZERO, ("rank", ZERO, 0)),
             ({ZERO: 0, ONE: 0, TWO: 0}, ZERO, ("rank", ZERO, 0)), ({ONE: 1, TWO: 0}, ZERO, ("lacks", ZERO)),
-            ({TWO: 0}, ZERO, ("lacks", ZERO)), ({ZERO: 0}, ZERO, ("lacks", ONE)), ({ZERO: 0, ONE: 0}, ZERO, ("lacks", TWO)),
+            ({TWO: 0}, ZERO, ("lacks", ZERO)), ({ZERO: 0}, ZERO, ("lacks", ONE)),
+            ({ZERO: 0, ONE: 0}, ZERO, ("lacks", TWO)),
             ({}, TWO, ("lacks", TWO)), (fine, ONE, ("spare", ZERO)), (fine, TWO, ("spare", ZERO)),
             ({TWO: 0, ONE: 0}, TWO, ("spare", ONE)), ({ZERO: 0, TWO: 0}, ONE, ("lacks", ONE)),
             ({ZERO: 0, ONE: 0, TWO: 9}, ONE, ("spare", ZERO)),
             ({ZERO: 9, ONE: -1, TWO: 0}, ZERO, ("form",)), ({ZERO: 9, ONE: True, TWO: 0}, ZERO, ("form",)),
             ({ZERO: 9, ONE: 4, TWO: False}, ZERO, ("form",)), ({ZERO: 9, ONE: 4, TWO: None}, ZERO, ("form",)),
             ({ZERO: 9, ONE: (4, 1), TWO: 0}, ZERO, ("form",)), ({ZERO: 9, ONE: [4], TWO: 0}, ZERO, ("form",)),
-            ({ZERO: 9, ONE: 4, TWO: 0, row(3): 0}, ZERO, ("form",)), ({ZERO: 9, ONE: 4, TWO: 0, row(-1): 0}, ZERO, ("form",)),
-            ({ZERO: 9, ONE: 4, TWO: 0, row("1/2"): 0}, ZERO, ("form",)), ({ZERO: 9, ((True, 1),): 4, TWO: 0}, ZERO, ("form",)),
-            ({ZERO: 9, ((1, True),): 4, TWO: 0}, ZERO, ("form",)), ({((False, 1),): 9, ONE: 4, TWO: 0}, ZERO, ("form",)),
+            ({ZERO: 9, ONE: 4, TWO: 0, row(3): 0}, ZERO, ("form",)),
+            ({ZERO: 9, ONE: 4, TWO: 0, row(-1): 0}, ZERO, ("form",)),
+            ({ZERO: 9, ONE: 4, TWO: 0, row("1/2"): 0}, ZERO, ("form",)),
+            ({ZERO: 9, ((True, 1),): 4, TWO: 0}, ZERO, ("form",)),
+            ({ZERO: 9, ((1, True),): 4, TWO: 0}, ZERO, ("form",)),
+            ({((False, 1),): 9, ONE: 4, TWO: 0}, ZERO, ("form",)),
             ({ZERO: 9, ONE: 4, TWO: 0, None: 0}, ZERO, ("form",)), ({ZERO: 9, ONE: 4, TWO: 0, "a": 0}, ZERO, ("form",)),
             ({ZERO: 9, ONE: 4, TWO: 0, (): 0}, ZERO, ("form",)), ({ZERO: 9, ONE: 4, TWO: 0, 1: 0}, ZERO, ("form",)),
-            ({ZERO: 9, ONE: 4, TWO: 0, row(1, 1): 0}, ZERO, ("form",)), ({ZERO: 9, ONE: 4, TWO: 0, (1, 1): 0}, ZERO, ("form",)),
+            ({ZERO: 9, ONE: 4, TWO: 0, row(1, 1): 0}, ZERO, ("form",)),
+            ({ZERO: 9, ONE: 4, TWO: 0, (1, 1): 0}, ZERO, ("form",)),
             ({ZERO: 9, ONE: 4, TWO: 0, True: 0}, ZERO, ("form",)), (list(fine.items()), ZERO, ("form",)),
             (tuple(fine.items()), ZERO, ("form",)),
         ]

@@ -80,7 +80,8 @@ def random_lists(rng, lists, turns, levels, most, mix=0.7):
 
 def some_cap(rng, powers):
     """A cap at which some rows, none or all are let."""
-    sums = sorted(sum(real(own[k]) for own, k in zip(powers, turns)) for turns in all_of(*[range(len(p)) for p in powers]))
+    sums = sorted(sum(real(own[k]) for own,
+                      k in zip(powers, turns)) for turns in all_of(*[range(len(p)) for p in powers]))
     return pair(rng.choice([rng.choice(sums), sums[-1], sums[0] - 1, rng.choice(sums) + Fraction(1, 99)]))
 
 
@@ -232,7 +233,8 @@ class JudgeTogether(unittest.TestCase):
             (("mixes", (((0, 1), half), ((1, 0), (1, 3)))), ("shares",)),
             (("mixes", (((0, 1), half), ((1, 0), (2, 3)))), ("shares",)),
             (("mixes", (((0, 1), (1, 3)), ((1, 0), (2, 3)))), ("level", 0, 0)),
-            (("mixes", (((0, 1), half), ((1, 1), half))), ("level", 1, 0)), (("mixes", (((1, 1), (1, 1)),)), ("level", 0, 0)),
+            (("mixes", (((0, 1), half), ((1, 1), half))), ("level", 1, 0)),
+            (("mixes", (((1, 1), (1, 1)),)), ("level", 0, 0)),
             (("climbs", (UP, UP)), ("slope", (0, 1))), (("climbs", (row(2), row(1))), ("slope", (1, 0))),
             (("climbs", (row(-2), row(-1))), ("slope", (0, 1))), (("climbs", (row(0), row(0))), ("slope", (0, 1))),
             (("climbs", (DOWN,)), ("form",)), (("climbs", (DOWN, DOWN, DOWN)), ("form",)),

@@ -129,11 +129,13 @@ class JudgeHeldCost(unittest.TestCase):
         cases = [
             (("least", (2, 1), (0, 0), UP), None), (("least", (2, 1), (0, 0), row(2)), ("prices", 0)),
             (("least", (2, 1), (0, 0), row(0)), ("prices", 1)), (("least", (3, 1), (0, 0), UP), ("prices", 0)),
-            (("least", (1, 1), (0, 0), row(1)), ("more", (0, 0))), (("least", (1, 1), (1, 0), row(0)), ("more", (0, 0))),
+            (("least", (1, 1), (0, 0), row(1)), ("more", (0, 0))),
+            (("least", (1, 1), (1, 0), row(0)), ("more", (0, 0))),
             (("least", (2, 1), (1, 0), row(1)), ("prices", 0)), (("least", (2, 1), (1, 0), row(-1)), ("prices", 1)),
             (("least", (5, 3), (0, 0), row("2/3")), ("more", (0, 0))), (("driven", (0, 0), UP), ("slope", 1)),
             (("driven", (1, 0), DOWN), ("slope", 0)), (("driven", (1, 0), row(0)), ("slope", 0)),
-            (("driven", (2, 0), UP), ("form",)), (("driven", (0, 0), row(1, 1)), ("form",)), (("driven", (0, 0)), ("form",)),
+            (("driven", (2, 0), UP), ("form",)), (("driven", (0, 0), row(1, 1)), ("form",)),
+            (("driven", (0, 0)), ("form",)),
             (("driven", [0, 0], UP), ("form",)), (("driven", (0, 0), list(UP)), ("form",)),
             (("driven", (True, 0), UP), ("form",)), (["least", (2, 1), (0, 0), UP], ("form",)),
             (("least", (2, 1), (0, 1), UP), ("form",)), (("least", (2, 1), (-1, 0), UP), ("form",)),
@@ -286,7 +288,8 @@ class Paid(unittest.TestCase):
         cost = held_cost(mill, costs)[1]
         room = random_room(rng, 3, 999999)
         start, winds = random_place(rng, room, 0), random_winds(rng, mill, 60)
-        self.assertEqual(paid(room, mill, costs, cost, start, winds), own_paid(room, mill, costs, real(cost), start, winds))
+        self.assertEqual(paid(room, mill, costs, cost, start, winds),
+                         own_paid(room, mill, costs, real(cost), start, winds))
 
     def test_an_excess_below_nought_counts_as_nought_and_goes_on(self):
         mill, costs = [(row(0),), (row(0),)], [((5, 1),), ((0, 1),)]
@@ -294,7 +297,8 @@ class Paid(unittest.TestCase):
         self.assertEqual(told, [(row(2), (1, 1)), (row(2), (2, 3)), (row(2), (4, 9))])
         mill, costs = [(row(0),), (row(0),)], [((0, 1),), ((5, 1),)]
         told = paid(ROOM, mill, costs, (2, 1), row(2), [(0, 0)] * 3)
-        self.assertEqual([excess for _, excess in told], [pair(Fraction(-2, 3) * sum(Fraction(1, k) for k in range(1, n)))
+        self.assertEqual([excess for _, excess in told],
+                         [pair(Fraction(-2, 3) * sum(Fraction(1, k) for k in range(1, n)))
                                                           for n in (2, 3, 4)])
 
     def test_nothing_moves(self):
