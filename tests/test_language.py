@@ -166,6 +166,7 @@ class Language(unittest.TestCase):
 
     def test_calls(self):
         own = [one.name for _, node in self.walk(ast.ClassDef) for one in node.body if isinstance(one, ast.FunctionDef)]
+        spots = set(self.gone_through())
         for name, node in self.walk(ast.Call):
             self.assertEqual(node.keywords, [], (name, node.lineno))
             self.assertFalse(any(isinstance(one, ast.Starred) for one in node.args), (name, node.lineno))
@@ -174,7 +175,7 @@ class Language(unittest.TestCase):
             else:
                 self.assertIsInstance(node.func, ast.Name)
             if isinstance(node.func, ast.Name) and node.func.id in ("zip", "enumerate", "reversed", "range"):
-                self.assertIn((name, node.lineno, node.col_offset), self.gone_through(), "not gone through at once")
+                self.assertIn((name, node.lineno, node.col_offset), spots, "not gone through at once")
             if isinstance(node.func, ast.Name) and node.func.id == "set":
                 self.assertIn("len(set(", self.texts[name])
 

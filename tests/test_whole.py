@@ -192,6 +192,14 @@ class Whole(unittest.TestCase):
                 for wrong in bools_in(given[0]):
                     self.assertIs(call_of(name, word)(wrong, *given[1:]), False, (word, wrong))
 
+    def test_plans_that_are_told_can_be_written_and_read(self):
+        for plan in (call_of("kept", "kept")(SQUARE, AROUND, CORNER)[1],
+                     call_of("ways", "way")(SQUARE, AROUND, CORNER, SPOT)[1],
+                     call_of("times", "quickest")(SQUARE, AROUND, SPOT, row(3, 3)),
+                     call_of("costs", "cheapest")(LINE, [UP, DOWN], [ONE, HALF], UP),
+                     call_of("books", "by_book")(SQUARE, AROUND, BOOK, 0, SPOT)[1]):
+            self.assertEqual(call_of("texts", "read_plan")(call_of("texts", "plan_text")(plan)), plan)
+
     def test_a_house_keeps_nothing_that_is_passed(self):
         house = House()
         for deed in (("room", "a", LINE), ("turn", "a", (UP,), ONE), ("turn", "a", (DOWN,), ONE)):
